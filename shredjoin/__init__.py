@@ -1,0 +1,1 @@
+"""Shredjoin: texts torn into pieces that lap."""

@@ -1,0 +1,79 @@
+"""The interface: the names and arguments of stage 1, and that nothing handed in is changed."""
+
+import copy
+import inspect
+import unittest
+
+from shredjoin import lines, pieces
+
+STAGE_1 = (
+    (pieces, "is_text", ["thing"]),
+    (pieces, "is_heap", ["thing"]),
+    (pieces, "tear", ["T", "long"]),
+    (pieces, "heap_of", ["pieces"]),
+    (pieces, "heaped", ["one", "other"]),
+    (pieces, "less_one", ["H", "piece"]),
+    (pieces, "size_of", ["H"]),
+    (lines, "show_heap", ["H"]),
+    (lines, "read_heap", ["line"]),
+)
+
+
+class Names(unittest.TestCase):
+    def test_each_function_takes_the_arguments_that_are_told(self):
+        for module, name, arguments in STAGE_1:
+            with self.subTest(name=name):
+                signature = inspect.signature(getattr(module, name))
+                self.assertEqual(list(signature.parameters), arguments)
+
+
+class NothingIsChanged(unittest.TestCase):
+    def kept(self, thing, call):
+        before = copy.deepcopy(thing)
+        try:
+            call(thing)
+        except ValueError:
+            pass
+        self.assertEqual(thing, before)
+        self.assertIs(type(thing), type(before))
+
+    def test_lists_stay_as_they_were(self):
+        for row in (["ba", "ab", "ba"], ["b", "a"], [], ["ab", "c"], ["ab", None], ["b"] * 301, [["ab", 2], ["ba", 1]]):
+            for call in (pieces.is_text, pieces.is_heap, pieces.heap_of, lines.read_heap):
+                with self.subTest(row=row, call=call):
+                    self.kept(row, call)
+            self.kept(row, lambda thing: pieces.tear(thing, 2))
+            self.kept(row, lambda thing: pieces.tear("ab", thing))
+
+    def test_dicts_stay_as_they_were(self):
+        for thing in ({"ab": 2}, {}):
+            for call in (pieces.is_text, pieces.is_heap, pieces.heap_of, lines.read_heap):
+                self.kept(thing, call)
+
+    def test_a_list_within_a_tuple_stays_as_it_was(self):
+        self.kept((["ab", 1], ["ba", 1]), pieces.is_heap)
+        self.kept((["ba", "ab"],), pieces.heap_of)
+
+
+class SameEachTime(unittest.TestCase):
+    def test_a_second_call_answers_the_same(self):
+        one, other = pieces.tear("abab", 2), pieces.tear("bcab", 2)
+        for call in (
+            lambda: pieces.tear("cabcab", 2),
+            lambda: pieces.heap_of(["c", "a", "b", "a"]),
+            lambda: pieces.heaped(one, other),
+            lambda: pieces.less_one(one, "ab"),
+            lambda: lines.show_heap(one),
+            lambda: lines.read_heap("ab*2 ba"),
+        ):
+            self.assertEqual(call(), call())
+
+    def test_a_row_that_is_changed_afterwards_does_not_change_the_heap(self):
+        row = ["b", "a"]
+        heap = pieces.heap_of(row)
+        row.append("c")
+        self.assertEqual(heap, (("a", 1), ("b", 1)))
+
+
+if __name__ == "__main__":
+    unittest.main()

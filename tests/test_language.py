@@ -1,4 +1,4 @@
-"""The package keeps to the part of Python that LANGUAGE.md tells, as far as its syntax shows it."""
+"""The package keeps to the part of Python that LANGUAGE.md tells: those of its rules that are easily seen."""
 
 import ast
 import builtins

@@ -1,12 +1,12 @@
-"""The interface: the names and arguments of stage 1, and that nothing handed in is changed."""
+"""The interface: the names and arguments of all stages, and that nothing handed in is changed."""
 
 import copy
 import inspect
 import unittest
 
-from shredjoin import lines, pieces
+from shredjoin import lines, nets, parts, pieces, verdicts, ways
 
-STAGE_1 = (
+NAMES = (
     (pieces, "is_text", ["thing"]),
     (pieces, "is_heap", ["thing"]),
     (pieces, "tear", ["T", "long"]),
@@ -16,12 +16,22 @@ STAGE_1 = (
     (pieces, "size_of", ["H"]),
     (lines, "show_heap", ["H"]),
     (lines, "read_heap", ["line"]),
+    (nets, "points_of", ["H"]),
+    (nets, "outs_of", ["H", "P"]),
+    (nets, "ins_of", ["H", "P"]),
+    (nets, "nexts_of", ["H", "P"]),
+    (nets, "begins_of", ["H"]),
+    (nets, "ends_of", ["H"]),
+    (parts, "part_of", ["H"]),
+    (parts, "hangs", ["H"]),
+    (ways, "way_of", ["ties", "begin"]),
+    (verdicts, "verdict", ["H"]),
 )
 
 
 class Names(unittest.TestCase):
     def test_each_function_takes_the_arguments_that_are_told(self):
-        for module, name, arguments in STAGE_1:
+        for module, name, arguments in NAMES:
             with self.subTest(name=name):
                 signature = inspect.signature(getattr(module, name))
                 self.assertEqual(list(signature.parameters), arguments)

@@ -71,12 +71,16 @@ def counted(pieces):
     return in_rows(manys)
 
 
+def pieces_of(T, long):
+    return [T[place:place + long] for place in range(len(T) - long + 1)]
+
+
 def tear(T, long):
     if not is_text(T):
         raise NoText("what is to be torn is no text")
     if not is_long(long) or long > len(T):
         raise NoText("the text cannot be torn at this length")
-    return counted([T[place:place + long] for place in range(len(T) - long + 1)])
+    return counted(pieces_of(T, long))
 
 
 def heap_of(pieces):

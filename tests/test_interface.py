@@ -4,7 +4,7 @@ import copy
 import inspect
 import unittest
 
-from shredjoin import lines, nets, parts, pieces, verdicts, ways
+from shredjoin import counts, exchanges, lines, nets, parts, pieces, ranks, tables, verdicts, ways
 
 NAMES = (
     (pieces, "is_text", ["thing"]),
@@ -26,6 +26,15 @@ NAMES = (
     (parts, "hangs", ["H"]),
     (ways, "way_of", ["ties", "begin"]),
     (verdicts, "verdict", ["H"]),
+    (tables, "worth_of", ["table"]),
+    (counts, "trees_of", ["H", "root"]),
+    (counts, "count_from", ["H", "P"]),
+    (counts, "count_of", ["H"]),
+    (ranks, "text_at", ["H", "number"]),
+    (ranks, "number_of", ["T", "long"]),
+    (exchanges, "deed_done", ["T", "long", "deed"]),
+    (exchanges, "change_of", ["T", "long"]),
+    (exchanges, "is_only", ["T", "long"]),
 )
 
 

@@ -4,7 +4,8 @@ import copy
 import inspect
 import unittest
 
-from shredjoin import counts, exchanges, lines, nets, parts, pieces, ranks, tables, verdicts, ways
+from shredjoin import (
+    bags, counts, exchanges, fills, leads, lines, nets, parts, pieces, ranks, sures, tables, verdicts, ways)
 
 NAMES = (
     (pieces, "is_text", ["thing"]),
@@ -35,6 +36,19 @@ NAMES = (
     (exchanges, "deed_done", ["T", "long", "deed"]),
     (exchanges, "change_of", ["T", "long"]),
     (exchanges, "is_only", ["T", "long"]),
+    (leads, "led_to", ["one", "other", "long"]),
+    (sures, "sure_long", ["T"]),
+    (sures, "behind_of", ["H", "piece"]),
+    (sures, "ahead_of", ["H", "piece"]),
+    (sures, "stretch_of", ["H", "piece"]),
+    (fills, "letters_to", ["one", "other"]),
+    (fills, "filled", ["H"]),
+    (bags, "Bag", ["long"]),
+    (bags.Bag, "put", ["self", "piece", "many"]),
+    (bags.Bag, "take", ["self", "piece", "many"]),
+    (bags.Bag, "as_heap", ["self"]),
+    (bags.Bag, "verdict_now", ["self"]),
+    (bags.Bag, "texts_now", ["self"]),
 )
 
 
@@ -44,6 +58,10 @@ class Names(unittest.TestCase):
             with self.subTest(name=name):
                 signature = inspect.signature(getattr(module, name))
                 self.assertEqual(list(signature.parameters), arguments)
+
+    def test_a_piece_is_put_and_taken_once_where_no_many_is_told(self):
+        for method in (bags.Bag.put, bags.Bag.take):
+            self.assertEqual(inspect.signature(method).parameters["many"].default, 1)
 
 
 class NothingIsChanged(unittest.TestCase):
@@ -84,6 +102,14 @@ class SameEachTime(unittest.TestCase):
             lambda: pieces.less_one(one, "ab"),
             lambda: lines.show_heap(one),
             lambda: lines.read_heap("ab*2 ba"),
+            lambda: verdicts.verdict(pieces.tear("abacada", 2)),
+            lambda: ways.way_of([("a", "", "a"), ("a", "", "b"), ("b", "", "a")], "a"),
+            lambda: exchanges.change_of("axayaz", 2),
+            lambda: leads.led_to("abacada", "dacabad", 2),
+            lambda: sures.sure_long("abcab"),
+            lambda: sures.behind_of(pieces.tear("abacada", 2), "ab"),
+            lambda: sures.ahead_of(pieces.tear("abacada", 2), "ab"),
+            lambda: fills.filled((("ab", 2), ("ad", 1), ("cb", 1), ("cd", 3))),
         ):
             self.assertEqual(call(), call())
 

@@ -33,6 +33,12 @@ WORDS = re.compile(
     r"\b(type|typing|typing_extensions|enum|Enum|IntEnum|StrEnum|Flag|IntFlag|Generic|Protocol|ABC|ABCMeta|namedtuple"
     r"|NamedTuple|TypedDict|TYPE_CHECKING|abstractmethod)\b|dataclass|overload|contextmanager")
 PLAIN = ("None", "True", "False")
+KEYWORDS = {"sorted": {"key", "reverse"}, "min": {"key", "default"}, "max": {"key", "default"}, "sum": {"start"},
+            "enumerate": {"start"}, "zip": {"strict"}}
+KEYS = {"len", "int", "str", "abs", "sum", "min", "max", "tuple"}
+CHANGES = {"append", "clear", "extend", "insert", "pop", "remove", "reverse", "setdefault", "update"}
+VALUES = {"count", "index", "title", "find", "get", "join", "lower", "upper", "split", "strip", "copy", "add"}
+PYTHONS = {name for kind in (str, int, list, dict, set, bytes, tuple) for name in dir(kind)}
 WALKED = {"zip", "enumerate", "reversed", "range"}
 WALKERS = {"list", "tuple", "dict", "sorted", "sum", "any", "all", "enumerate", "zip", "min", "max"}
 
@@ -52,6 +58,10 @@ class Reader:
         self.faults = []
         self.own_methods = set(own_methods)
         self.tree = ast.parse(text)
+        self.classes = {node.name for node in self.tree.body if isinstance(node, ast.ClassDef)}
+        drawn = [name.name for node in self.tree.body if isinstance(node, ast.ImportFrom) for name in node.names]
+        self.classes |= {name for name in drawn if name[0].isupper() and not name.isupper()}
+        self.taken = self.classes | set(drawn)
         self.above = {}
         for node in ast.walk(self.tree):
             for child in ast.iter_child_nodes(node):
@@ -110,6 +120,11 @@ class Reader:
         if hasattr(builtins, name):
             self.fault("L15", node)
 
+    def read_local(self, name, node):
+        self.read_bound(name, node)
+        if name in self.taken:
+            self.fault("L15", node)
+
     def read_ImportFrom(self, node):
         if self.above[node] is not self.tree or node.level or not node.module.startswith("shredjoin."):
             self.fault("L2", node)
@@ -129,8 +144,13 @@ class Reader:
         if not isinstance(self.above[node], ast.ClassDef) and hasattr(builtins, node.name):
             self.fault("L15", node)
 
+        if node.name == "__init__" and any(isinstance(part, ast.Return) and part.value for part in ast.walk(node)):
+            self.fault("L28", node)
+        if node.name in DUNDERS - {"__init__"}:
+            self.fault("L28", node)
+
     def read_arg(self, node):
-        self.read_bound(node.arg, node)
+        self.read_local(node.arg, node)
 
     def read_ClassDef(self, node):
         if self.above[node] is not self.tree:
@@ -140,6 +160,11 @@ class Reader:
         if not all(isinstance(part, (ast.FunctionDef, ast.Pass)) for part in node.body):
             self.fault("L5", node)
         self.read_bound(node.name, node)
+        methods = [part.name for part in node.body if isinstance(part, ast.FunctionDef)]
+        if len(methods) != len(set(methods)):
+            self.fault("L18", node)
+        if any(name in PYTHONS - METHODS - DUNDERS - {"add", "discard"} for name in methods):
+            self.fault("L26", node)
 
     def read_Assign(self, node):
         if len(node.targets) > 1:
@@ -149,11 +174,29 @@ class Reader:
         if not isinstance(node.value, ast.Call) and self.tree.body[0] is not node:
             self.fault("L6", node)
 
-    def read_For(self, node):
+    def read_While(self, node):
         if node.orelse:
             self.fault("L6", node)
 
-    read_While = read_For
+    def read_For(self, node):
+        self.read_While(node)
+        walked = node.iter
+        while isinstance(walked, ast.Call):
+            if called(walked) in ("list", "tuple", "sorted"):
+                return
+            method = isinstance(walked.func, ast.Attribute)
+            if not method and not walked.args:
+                return
+            walked = walked.func.value if method else walked.args[0]
+        for part in [inner for row in node.body for inner in ast.walk(row)]:
+            if isinstance(part, ast.Subscript) and isinstance(part.ctx, ast.Store):
+                changed = part.value
+            elif isinstance(part, ast.Call) and isinstance(part.func, ast.Attribute) and part.func.attr in CHANGES:
+                changed = part.func.value
+            else:
+                continue
+            if ast.dump(changed) == ast.dump(walked):
+                self.fault("L23", part)
 
     def read_Try(self, node):
         if node.finalbody:
@@ -197,18 +240,48 @@ class Reader:
 
     def read_Name(self, node):
         if isinstance(node.ctx, ast.Store):
-            self.read_bound(node.id, node)
-        else:
-            self.read_word(node.id, node)
-            if hasattr(builtins, node.id) and node.id not in OWN_NAMES:
-                self.fault("L8", node)
+            self.read_local(node.id, node)
+            return
+        self.read_word(node.id, node)
+        if hasattr(builtins, node.id) and node.id not in OWN_NAMES:
+            self.fault("L8", node)
+        if node.id in self.classes and not self.is_named(node):
+            self.fault("L18", node)
+        if node.id in OWN_NAMES and not self.is_named(node):
+            above = self.above[node]
+            if not (isinstance(above, ast.keyword) and above.arg == "key" and node.id in KEYS):
+                self.fault("L22", node)
+
+    def is_named(self, node):
+        """Called, a base, or beside isinstance and except."""
+        above = self.above[node]
+        if isinstance(above, ast.Tuple):
+            node, above = above, self.above[above]
+        if isinstance(above, ast.Call):
+            return above.func is node or called(above) == "isinstance" and above.args[1] is node
+        return isinstance(above, (ast.ClassDef, ast.ExceptHandler)) or (
+            isinstance(above, ast.Attribute) and above.attr == "__init__")
 
     def read_Attribute(self, node):
         if not (node.attr in DUNDERS and isinstance(node.value, ast.Name)):
             self.read_word(node.attr, node)
+        if isinstance(node.ctx, ast.Store) and node.attr in PYTHONS - VALUES:
+            self.fault("L26", node)
+        above = self.above[node]
+        is_called = isinstance(above, ast.Call) and above.func is node
+        if node.attr in METHODS and not is_called and not (isinstance(above, ast.keyword) and above.arg == "key"):
+            self.fault("L25", node)
+
+    def read_Lambda(self, node):
+        for other in ast.walk(self.tree):
+            if isinstance(other, ast.Lambda) and other is not node and other.lineno == node.lineno:
+                if ast.dump(other.args) == ast.dump(node.args):
+                    self.fault("L13", node)
 
     def read_Set(self, node):
         above = self.above[node]
+        if isinstance(node, ast.Set) and len(node.elts) >= 3 and not isinstance(above, ast.Compare):
+            self.fault("L13", node)
         if not (isinstance(above, (ast.Compare, ast.BinOp)) or called(above) in ("sorted", "len")):
             self.fault("L24", node)
 
@@ -232,6 +305,9 @@ class Reader:
             self.fault("L25", node)
         if any(isinstance(part, ast.Starred) for part in node.args) or any(k.arg is None for k in node.keywords):
             self.fault("L7", node)
+        if name in OWN_NAMES or name in self.classes or method in METHODS:
+            if any(keyword.arg not in KEYWORDS.get(name, ()) for keyword in node.keywords):
+                self.fault("L22", node)
 
 
 def package_files():
@@ -288,6 +364,15 @@ class Package(unittest.TestCase):
                 left.pop(module)
 
 
+    def test_no_name_is_a_method_and_a_value(self):
+        values = set()
+        for path in package_files():
+            for node in ast.walk(ast.parse(path.read_text("utf-8"))):
+                if isinstance(node, ast.Attribute) and isinstance(node.ctx, ast.Store):
+                    values.add(node.attr)
+        self.assertEqual(values & set(methods_of_package()), set(), "L18")
+
+
 class TheReaderItself(unittest.TestCase):
     def test_faults_are_seen(self):
         for rule, text in (
@@ -301,6 +386,14 @@ class TheReaderItself(unittest.TestCase):
             ("L20", "def f(x):\n    return x is 1\n"), ("L21", "def f(x: int):\n    pass\n"),
             ("L23", "def f(x):\n    return x.items()\n"), ("L24", "def f(x):\n    return set(x)\n"),
             ("L25", "def f(x):\n    return x.title()\n"), ("L27", "def f(n):\n    return 2 ** n\n"),
+            ("L13", "def f(x):\n    return sorted({1, 2, 3})\n"), ("L13", "def f(x):\n    g(lambda y: 1, lambda y: 2)\n"),
+            ("L15", "from shredjoin.pieces import tear\ndef f(tear):\n    return 1\n"),
+            ("L18", "class A:\n    pass\ndef f():\n    return [A]\n"), ("L22", "def f(x):\n    return g(len)\n"),
+            ("L22", "def f(x):\n    return x.split(sep=x)\n"), ("L22", "def f(x):\n    return min(x, strict=x)\n"),
+            ("L23", "def f(x):\n    for k in x:\n        x.append(k)\n"), ("L25", "def f(x):\n    return x.append\n"),
+            ("L23", "def f(x):\n    for k, v in enumerate(x):\n        x[k] = v\n"),
+            ("L26", "class A:\n    def title(self):\n        return 1\n"), ("L26", "def f(x):\n    x.items = 1\n"),
+            ("L28", "class A:\n    def __init__(self):\n        return None\n"),
         ):
             with self.subTest(text=text):
                 self.assertIn(rule, [fault[0] for fault in Reader(text).faults])

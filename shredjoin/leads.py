@@ -12,19 +12,12 @@ def first_unlike(one, other):
     return place
 
 
-def place_of_piece(T, piece, first):
-    place = first
-    while not T.startswith(piece, place):
-        place = place + 1
-    return place
-
-
 def swap_towards(T, goal, long):
     # Up to a both texts are alike, and behind a they have the same pieces left, so the piece with which the goal
     # goes on stands further on in the text, at c. A point behind c is also one from a to c: else the goal, once it
     # has gone on so, could never come back to the pieces between a and c.
     a = first_unlike(T, goal) - long + 1
-    c = place_of_piece(T, goal[a:a + long], a + 1)
+    c = T.find(goal[a:a + long], a + 1)
     points = points_along(T, long)
     places = {}
     for place in range(a, c + 1):
